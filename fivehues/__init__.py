@@ -1,0 +1,1 @@
+"""Fivehues: flat webs whose places are given hues."""
