@@ -20,13 +20,13 @@ def faces_of(rounds):
     """The faces of rounds, sorted."""
     behind = steps_behind(rounds)
     found = [[place] for place in rounds if not rounds[place]]
-    gone = set()
+    gone = {}
     # Steps are begun with in sorted order, so each face is begun with its least one.
     for first in sorted(behind):
         face = []
         step = first
         while step not in gone:
-            gone.add(step)
+            gone[step] = True
             face.append(step[0])
             step = behind[step]
         if face:
@@ -36,13 +36,13 @@ def faces_of(rounds):
 
 def piece_from(rounds, start):
     """All places that are come to from start by ties, itself too, rising."""
-    reached = {start}
+    reached = {start: True}
     waiting = [start]
     while waiting:
         place = waiting.pop()
         for other in rounds[place]:
             if other not in reached:
-                reached.add(other)
+                reached[other] = True
                 waiting.append(other)
     return sorted(reached)
 
@@ -50,13 +50,13 @@ def piece_from(rounds, start):
 def pieces_of(rounds):
     """The pieces of rounds, sorted."""
     found = []
-    reached = set()
+    reached = {}
     for start in sorted(rounds):
         if start not in reached:
             piece = piece_from(rounds, start)
             found.append(piece)
             for place in piece:
-                reached.add(place)
+                reached[place] = True
     return found
 
 

@@ -1,5 +1,7 @@
 """Rows of webs, and things that are no names, for several tests."""
 
+import random
+
 from fivehues.webs import Web
 
 NO_NAMES = [
@@ -40,6 +42,14 @@ PIECES = [
     ("a", []),
 ]
 
+# Seventeen places whose first one in the order meets five hues when it comes back, so that it gets the sixth.
+SIXTH = (
+    "aa: ad bd cd bb south; ab: ac ba bd ad bc; ac: ab bc north cb ca ba; ad: aa south bc ab bd; ae: ba ca ce cc cd; "
+    "ba: ab ac ca ae cd bd; bb: aa cd cc be north south; bc: ab ad south north ac; bd: aa ad ab ba cd; "
+    "be: bb cc ce cb north; ca: ac cb ce ae ba; cb: ac north be ce ca; cc: ae ce be bb cd; cd: aa bd ba ae cc bb; "
+    "ce: ae ca cb be cc; north: ac bc south bb be cb; south: aa bb north bc ad"
+)
+
 
 def twisted(first="a"):
     """Four places, each tied to each, one round turned about: not flat, with two faces."""
@@ -64,6 +74,39 @@ def grid_name(y, x):
     return chr(ord("a") + y) + chr(ord("a") + x)
 
 
+def caps(high=2, wide=5):
+    """Two caps with closed rows of places between them, all faces of three places; caps() has five ties each."""
+    rows = [("north", [grid_name(0, x) for x in range(wide)])]
+    for y in range(high):
+        for x in range(wide):
+            above = [grid_name(y - 1, (x + 1) % wide), grid_name(y - 1, x)] if y else ["north"]
+            below = [grid_name(y + 1, (x - 1) % wide), grid_name(y + 1, x)] if y < high - 1 else ["south"]
+            around = [grid_name(y, (x + 1) % wide)] + above + [grid_name(y, (x - 1) % wide)] + below
+            rows.append((grid_name(y, x), around))
+    return rows + [("south", [grid_name(high - 1, -x % wide) for x in range(wide)])]
+
+
+def thinned(rows, chance):
+    """Rows without some of their places and ties, as chance has it: flat as well."""
+    kept = [place for place, around in rows if chance.random() < 0.95]
+    ties = [(one, other) for one, around in rows for other in around if one < other]
+    gone = [tie for tie in ties if chance.random() < 0.1]
+    gone += [(other, one) for one, other in gone]
+    return [
+        (place, [other for other in around if other in kept and (place, other) not in gone])
+        for place, around in rows
+        if place in kept
+    ]
+
+
+def mixed(rows, chance):
+    """Rows with their names exchanged among their places, as chance has it."""
+    names = [place for place, around in rows]
+    others = chance.sample(names, len(names))
+    new = dict(zip(names, others))
+    return [(new[place], [new[other] for other in around]) for place, around in rows]
+
+
 def rounds(web):
     """All that a web tells of itself."""
     return [(place, web.round_of(place)) for place in web.places()]
@@ -72,4 +115,11 @@ def rounds(web):
 def flat_webs():
     """Webs of many kinds, all of them flat."""
     samples = [[], [("a", [])], TRIANGLE, FOUR, BOW, STAR, PIECES, grid(), grid(1, 7), grid(2, 2)]
+    samples += [caps(high, wide) for high, wide in [(1, 3), (2, 5), (3, 5), (2, 7), (6, 6)]]
     return [Web(rows) for rows in samples]
+
+
+def chance_webs(many, high=3, wide=5):
+    """Flat webs by chance, but the same ones each time."""
+    chance = random.Random(many)
+    return [Web(mixed(thinned(caps(high, wide), chance), chance)) for k in range(many)]

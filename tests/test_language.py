@@ -18,13 +18,15 @@ OWN_METHODS = set(
     "append clear copy count endswith extend find get index insert isalnum isalpha isdigit islower isspace"
     " isupper items join keys ljust lower lstrip partition pop remove replace reverse rfind rjust rpartition"
     " rsplit rstrip setdefault split splitlines startswith strip update upper values zfill bit_length sort"
-    " add discard title capitalize swapcase casefold center removeprefix removesuffix rindex isascii"
+    " title capitalize swapcase casefold center removeprefix removesuffix rindex isascii"
     " isdecimal isnumeric istitle isidentifier isprintable __init__".split()
 )
 OUT = (
     ast.With, ast.AsyncWith, ast.AsyncFor, ast.AsyncFunctionDef, ast.Await, ast.Match, ast.Global,
     ast.Nonlocal, ast.Yield, ast.YieldFrom, ast.NamedExpr, ast.GeneratorExp, ast.Div, ast.Import, ast.MatMult,
 )
+WALKED_AT_ONCE = set("zip enumerate reversed range items keys values".split())
+WALKERS = set("list tuple dict sorted sum any all enumerate zip min max join".split())
 WORDS_OUT = re.compile(
     r"\b(type|typing|typing_extensions|enum|Enum|IntEnum|StrEnum|Flag|IntFlag|Generic|Protocol|ABC|ABCMeta"
     r"|namedtuple|NamedTuple|TypedDict|TYPE_CHECKING|abstractmethod)\b|dataclass|overload|contextmanager"
@@ -67,6 +69,19 @@ def given_names():
     given += [(name, node.id) for name, node in nodes(ast.Name) if isinstance(node.ctx, ast.Store)]
     given += [(name, node.name) for name, node in nodes(ast.FunctionDef, ast.ClassDef)]
     return given
+
+
+def with_parents(*kinds):
+    """All nodes of some kinds, with their files and the nodes in which they stand."""
+    pairs = [(name, parent, node) for name, parent in nodes(ast.AST) for node in ast.iter_child_nodes(parent)]
+    return [(name, parent, node) for name, parent, node in pairs if isinstance(node, kinds)]
+
+
+def called(node):
+    """The name by which something is called, or None where nothing is."""
+    if not isinstance(node, ast.Call):
+        return None
+    return node.func.attr if isinstance(node.func, ast.Attribute) else getattr(node.func, "id", None)
 
 
 def methods():
@@ -164,6 +179,19 @@ class Language(unittest.TestCase):
         self.assertEqual(set(values) & set(methods()), set())
         for name, node in nodes(ast.Attribute):
             self.assertIn(node.attr, OWN_METHODS | set(methods()) | set(values), (name, node.lineno))
+
+    def test_sets_are_not_kept(self):
+        # No set is kept, as the document asks for a class with a method add.
+        for name, parent, node in with_parents(ast.Set, ast.SetComp, ast.Call):
+            if called(node) == "set" or not isinstance(node, ast.Call):
+                within = isinstance(parent, ast.Compare) or called(parent) in ("sorted", "len")
+                self.assertTrue(within, (name, node.lineno))
+
+    def test_what_is_walked_at_once(self):
+        for name, parent, node in with_parents(ast.Call):
+            if called(node) in WALKED_AT_ONCE:
+                within = isinstance(parent, (ast.For, ast.comprehension)) or called(parent) in WALKERS
+                self.assertTrue(within, (name, node.lineno))
 
     def test_is_stands_beside_none_true_and_false_alone(self):
         for name, node in nodes(ast.Compare):
