@@ -2,7 +2,9 @@
 
 import random
 
+from fivehues.images import mirrored
 from fivehues.webs import Web
+from fivehues.webtexts import read_web
 
 NO_NAMES = [
     "", "abcdefghi", "A", "aB", "Ab", "a1", "7", "a b", " a", "a ", "a\n", "a-b", "_", "`", "{", "~",
@@ -48,6 +50,59 @@ SIXTH = (
     "ba: ab ac ca ae cd bd; bb: aa cd cc be north south; bc: ab ad south north ac; bd: aa ad ab ba cd; "
     "be: bb cc ce cb north; ca: ac cb ce ae ba; cb: ac north be ce ca; cc: ae ce be bb cd; cd: aa bd ba ae cc bb; "
     "ce: ae ca cb be cc; north: ac bc south bb be cb; south: aa bb north bc ad"
+)
+
+# Sixteen places whose first one in the order meets five hues when it comes back, the first of its round being
+# chained to the third: so the second and the fourth are exchanged.
+SECOND = (
+    "aa: af ag an south ah; ab: ad af ah aj al; ac: ad al am north ai; ad: ab al ac ai af; "
+    "ae: ag north am ak an; af: aa ah ab ad ai ag; ag: aa af ai north ae an; ah: aa south aj ab af; "
+    "ai: ac north ag af ad; aj: ab ah south ak am al; ak: ae am aj south an; al: ab aj am ac ad; "
+    "am: ac al aj ak ae north; an: aa ag ae ak south; north: ac am ae ag ai; south: aa an ak aj ah"
+)
+
+# Webs with held places. The first four get four hues: by one try that is the first one, or the twelfth; by two
+# tries; one place behind another by one, one and two tries. Of the others one place goes through all its tries.
+EARLY = (
+    "aa: ab bb bc ad; ab: aa ad south ac north bb; ac: ab south north; ad: aa bc bd south ab; "
+    "ba: bb south bd bc; bb: aa ab north south ba bc; bc: aa bb ba bd ad; bd: ad bc ba south; "
+    "north: ab ac south bb; south: ab ad bd ba bb north ac"
+)
+
+ONE_TRY = (
+    "aa: ac ag ak aj north; ab: ad ah aj ak al; ac: aa north ae ai ag; ad: ab al af south ah; "
+    "ae: ac north ah south ai; af: ad al ag ai south; ag: aa ac ai af al ak; ah: ab ad south ae north aj; "
+    "ai: ac ae south af ag; aj: aa ak ab ah north; ak: aa ag al ab aj; al: ab ak ag af ad; "
+    "north: aa aj ah ae ac; south: ad af ai ae ah"
+)
+
+TWO_TRIES = (
+    "aa: af ah al north ag; ab: ac ai af aj ak; ac: ab ak south ad ai; ad: ac south al ah ai; "
+    "ae: ag north south ak aj; af: aa ag aj ab ai ah; ag: aa north ae aj af; ah: aa af ai ad al; "
+    "ai: ab ac ad ah af; aj: ab af ag ae ak; ak: ab aj ae south ac; al: aa ah ad south north; "
+    "north: aa al south ae ag; south: ac ak ae north al ad"
+)
+
+THREE_HELD = (
+    "aa: ac aj ak ag ai south; ab: ac south ae ad al; ac: aa south ab al aj; ad: ab ae ah am al; "
+    "ae: ab south ai an ah ad; af: ag ak north am ah an; ag: aa ak af an ai; ah: ad ae an af am; "
+    "ai: aa ag an ae south; aj: aa ac al north ak; ak: aa aj north af ag; al: ab ad am north aj ac; "
+    "am: ad ah af north al; an: ae ai ag af ah; north: af ak aj al am; south: aa ai ae ab ac"
+)
+
+NEVER = (
+    "aa: ab an ai ad ac; ab: aa ac south af al an; ac: aa ad ak south ab; ad: aa ai ao ak ac; "
+    "ae: ag ai an al ah; af: ab south aj am ah al; ag: ae ah am north ao ai; ah: ae al af am ag; "
+    "ai: aa an ae ag ao ad; aj: af south ak north am; ak: ac ad ao north aj south; al: ab af ah ae an; "
+    "am: af aj north ag ah; an: aa ab al ae ai; ao: ad ai ag north ak; north: ag am aj ak ao; "
+    "south: ab ac ak aj af"
+)
+
+LATE_NEVER = (
+    "aa: ad north aj ai ah; ab: ac al ah ai af an; ac: ab an ao ae al; ad: aa ah al ae ak north; "
+    "ae: ac ao ak ad al; af: ab ai ag am an; ag: af ai aj south am; ah: aa ai ab al ad; ai: aa aj ag af ab ah; "
+    "aj: aa north south ag ai; ak: ad ae ao south north; al: ab ac ae ad ah; am: af ag south ao an; "
+    "an: ab af am ao ac; ao: ac an am south ak ae; north: aa ad ak south aj; south: ag aj north ak ao am"
 )
 
 
@@ -123,3 +178,26 @@ def chance_webs(many, high=3, wide=5):
     """Flat webs by chance, but the same ones each time."""
     chance = random.Random(many)
     return [Web(mixed(thinned(caps(high, wide), chance), chance)) for k in range(many)]
+
+
+def five_webs():
+    """Webs for five hues, each also mirrored and with its names exchanged among its places."""
+    samples = flat_webs() + [Web(caps(high, wide)) for high in range(2, 7) for wide in range(5, 8)]
+    samples += [read_web(text) for text in [SIXTH, SECOND, THREE_HELD, NEVER]]
+    chance = random.Random(5)
+    images = [mirrored(web) for web in samples] + [Web(mixed(rounds(web), chance)) for web in samples]
+    return samples + images
+
+
+def same_rounds(web):
+    """Another web with the same rounds, made of other rows."""
+    return Web([(place, around[1:] + around[:1]) for place, around in rounds(web)[::-1]])
+
+
+def spoil(paper):
+    """Change a told paper, and all that stands in it, as an asker may."""
+    for place, hue, swaps in paper:
+        for start, other, places in swaps:
+            places.clear()
+        swaps.append("q")
+    paper.clear()

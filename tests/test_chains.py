@@ -8,7 +8,7 @@ from fivehues.hues import fault
 from fivehues.images import mirrored
 from fivehues.sixhues import six_hues
 from fivehues.webs import Web
-from tests.helpers import BOW, PIECES, STAR, TRIANGLE, caps, chance_webs, flat_webs, grid, rounds
+from tests.helpers import BOW, PIECES, STAR, TRIANGLE, caps, chance_webs, flat_webs, grid, rounds, same_rounds
 
 BOW_HUES = {"a": 0, "b": 1, "c": 2, "d": 1, "e": 3}
 
@@ -175,7 +175,7 @@ class Unchanged(unittest.TestCase):
             for start in list(hues)[:3]:
                 told = exchanged(web, hues, start, hues[start] + 1)
                 self.assertEqual(exchanged(web, hues, start, hues[start] + 1), told)
-                self.assertEqual(exchanged(Web(rounds(web)[::-1]), hues, start, hues[start] + 1), told)
+                self.assertEqual(exchanged(same_rounds(web), hues, start, hues[start] + 1), told)
 
 
 if __name__ == "__main__":

@@ -5,7 +5,7 @@ import unittest
 from fivehues.errors import NotFlat
 from fivehues.faces import faces, pieces
 from fivehues.webs import Web
-from tests.helpers import BOW, FOUR, PIECES, STAR, TRIANGLE, flat_webs, grid, rounds, twisted
+from tests.helpers import BOW, FOUR, PIECES, STAR, TRIANGLE, flat_webs, grid, rounds, same_rounds, twisted
 
 
 def steps_of(face):
@@ -103,9 +103,9 @@ class Unchanged(unittest.TestCase):
         self.assertEqual(rounds(web), BOW)
 
     def test_another_web_with_the_same_rounds_tells_the_same(self):
-        other = Web([(place, around[1:] + around[:1]) for place, around in PIECES[::-1]])
-        self.assertEqual(faces(other), faces(Web(PIECES)))
-        self.assertEqual(pieces(other), pieces(Web(PIECES)))
+        web = Web(PIECES)
+        self.assertEqual(faces(same_rounds(web)), faces(web))
+        self.assertEqual(pieces(same_rounds(web)), pieces(web))
 
 
 class Flatness(unittest.TestCase):

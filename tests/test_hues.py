@@ -5,7 +5,7 @@ import unittest
 
 from fivehues.hues import fault, free_hue
 from fivehues.webs import Web
-from tests.helpers import BOW, FOUR, PIECES, STAR, TRIANGLE, chance_webs, rounds
+from tests.helpers import BOW, FOUR, PIECES, STAR, TRIANGLE, chance_webs, rounds, same_rounds
 
 # Faults of three sorts for the two triangles that share a place: each by itself, and what is told of it.
 LACKING = ("lacking", "c")
@@ -95,7 +95,7 @@ class Unchanged(unittest.TestCase):
         for web in chance_webs(5):
             hues = {place: len(place) for place in web.places()}
             self.assertEqual(fault(web, hues), ("like",) + web.ties()[0])
-            self.assertEqual(fault(Web(rounds(web)), dict(hues)), ("like",) + web.ties()[0])
+            self.assertEqual(fault(same_rounds(web), dict(hues)), ("like",) + web.ties()[0])
 
 
 class Free(unittest.TestCase):

@@ -7,7 +7,8 @@ from fivehues.images import mirrored
 from fivehues.sixhues import order, six_hues
 from fivehues.webs import Web
 from fivehues.webtexts import read_web
-from tests.helpers import BOW, FOUR, PIECES, SIXTH, STAR, TRIANGLE, caps, chance_webs, flat_webs, grid, rounds
+from tests.helpers import BOW, FOUR, PIECES, SIXTH, STAR, TRIANGLE
+from tests.helpers import caps, chance_webs, flat_webs, grid, rounds, same_rounds
 
 
 def samples():
@@ -111,7 +112,7 @@ class Unchanged(unittest.TestCase):
 
     def test_another_web_with_the_same_rounds(self):
         for web in samples():
-            other = Web([(place, around[1:] + around[:1]) for place, around in rounds(web)[::-1]])
+            other = same_rounds(web)
             self.assertEqual(order(other), order(web))
             self.assertEqual(six_hues(other), six_hues(web))
 
