@@ -2,6 +2,7 @@
 
 import random
 
+from fivehues.errors import HueError
 from fivehues.images import mirrored
 from fivehues.webs import Web
 from fivehues.webtexts import read_web
@@ -201,3 +202,73 @@ def spoil(paper):
             places.clear()
         swaps.append("q")
     paper.clear()
+
+
+def beside(rows, other, first="q"):
+    """Rows, and other ones with a letter ahead of their names: together several pieces."""
+    return rows + [(first + place, [first + name for name in around]) for place, around in other]
+
+
+def ring_rows(many):
+    """A ring of so many places, their names in the order of the ring."""
+    names = [grid_name(at // 26, at % 26) for at in range(many)]
+    return [(names[at], [names[(at + 1) % many], names[at - 1]]) for at in range(many)]
+
+
+def tree_rows(many, chance):
+    """So many places, each but the first tied to one of those ahead of it, as chance has it."""
+    names = [grid_name(at // 26, at % 26) for at in range(many)]
+    around = {name: [] for name in names}
+    for at in range(1, many):
+        one = names[chance.randrange(at)]
+        around[one].insert(chance.randrange(len(around[one]) + 1), names[at])
+        around[names[at]].append(one)
+    return mixed(list(around.items()), chance)
+
+
+def pairs_round(names):
+    """Each of a list with the next one, the last with the first."""
+    return list(zip(names, names[1:] + names[:1]))
+
+
+def is_ring(web, ring):
+    """Whether a list is a ring of a web, by the document's words."""
+    tied = all(web.is_tied(one, other) for one, other in pairs_round(ring))
+    return isinstance(ring, list) and len(ring) >= 3 and len(set(ring)) == len(ring) and tied
+
+
+def all_rings(web):
+    """All rings of a web, each gone along either way round and from each of its places on."""
+    found = []
+    ways = [[place] for place in web.places()]
+    while ways:
+        way = ways.pop()
+        if is_ring(web, way):
+            found.append(way)
+        ways += [way + [other] for other in web.round_of(way[-1]) if other not in way]
+    return found
+
+
+def come_to(web, starts, without=()):
+    """All that are come to from some places by ties, themselves too, without some others."""
+    found = [start for start in starts if start not in without]
+    while True:
+        more = {other for place in found for other in web.round_of(place)} - set(found) - set(without)
+        if not more:
+            return sorted(set(found))
+        found += sorted(more)
+
+
+def are_right(web, hues):
+    """Whether hues are right, by the document's words."""
+    just = isinstance(hues, dict) and sorted(hues) == web.places() and all(type(hues[p]) is int for p in hues)
+    return just and all(hues[one] != hues[other] and min(hues[one], hues[other]) >= 0 for one, other in web.ties())
+
+
+def refusal(call, *things):
+    """The class of the refusal that a call meets, or None where it is not refused."""
+    try:
+        call(*things)
+    except HueError as error:
+        return type(error)
+    return None
