@@ -40,14 +40,16 @@ def reads(web, lists, choice, chosen=()):
 
 
 def is_there(web, lists, hues=None):
-    """Whether right hues from lists are there, place by place gone through."""
+    """Whether right hues from lists are there, gone through by places with few hues left."""
     hues = hues or {}
-    left = [place for place in web.places() if place not in hues]
+    left = []
+    for place in [place for place in web.places() if place not in hues]:
+        around = [hues.get(other) for other in web.round_of(place)]
+        left.append(([hue for hue in lists[place] if hue not in around], place))
     if not left:
         return True
-    place = left[0]
-    around = [hues.get(other) for other in web.round_of(place)]
-    return any(is_there(web, lists, {**hues, place: hue}) for hue in lists[place] if hue not in around)
+    free, place = min(left, key=lambda pair: len(pair[0]))
+    return any(is_there(web, lists, {**hues, place: hue}) for hue in free)
 
 
 def kinds_are_told(choice):
